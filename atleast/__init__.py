@@ -1,0 +1,1 @@
+"""Rows of at least between unknowns, and what they come to."""

@@ -21,6 +21,12 @@ BANNED_WORDS = re.compile(
     r"\b(type|typing|typing_extensions|enum|Enum|IntEnum|StrEnum|Flag|IntFlag|Generic|Protocol|ABC|ABCMeta"
     r"|namedtuple|NamedTuple|TypedDict|TYPE_CHECKING|abstractmethod)\b|dataclass|overload|contextmanager")
 
+METHODS = set("""
+    append clear copy count endswith extend find get index insert isalnum isalpha isdigit islower isspace isupper items
+    join keys ljust lower lstrip partition pop remove replace reverse rfind rjust rpartition rsplit rstrip setdefault
+    split splitlines startswith strip update upper values zfill bit_length
+""".split())
+
 BANNED_NODES = (
     ast.Import, ast.With, ast.Match, ast.Delete, ast.Global, ast.Nonlocal, ast.Assert, ast.Yield, ast.YieldFrom,
     ast.AsyncFunctionDef, ast.AsyncFor, ast.AsyncWith, ast.Await, ast.GeneratorExp, ast.SetComp, ast.DictComp,
@@ -43,7 +49,7 @@ class TestForm(unittest.TestCase):
         for path in PACKAGE.rglob("*"):
             if "__pycache__" not in path.parts and not path.is_dir():
                 self.assertRegex(path.name, r"\A[a-z0-9_]+\.py\Z")
-        for module in ("__init__", "errors", "parts", "rows"):
+        for module in ("__init__", "errors", "parts", "rows", "taking", "corners", "asking", "notes"):
             self.assertTrue((PACKAGE / (module + ".py")).is_file(), module)
 
     def test_sizes_and_signs(self):
@@ -90,6 +96,45 @@ class TestForm(unittest.TestCase):
                 self.assertIsInstance(node.ctx, ast.Load, (name, node.id))
         for name, node in self.nodes(ast.arg):
             self.assertFalse(hasattr(builtins, node.arg), (name, node.arg))
+
+    def test_texts(self):
+        for name, node in self.nodes(ast.Constant):
+            if isinstance(node.value, str):
+                self.assertNotIn("%", node.value, name)
+        for name, node in self.nodes(ast.FormattedValue):
+            self.assertIsInstance(node.value, ast.Name, name)
+
+    def test_methods(self):
+        own = {node.name for name, node in self.nodes(ast.FunctionDef)}
+        for name, node in self.nodes(ast.Call):
+            if isinstance(node.func, ast.Attribute):
+                self.assertIn(node.func.attr, METHODS | own, name)
+
+    def test_no_two_files_draw_from_one_another(self):
+        drawn = {name: [node.module.split(".")[1] + ".py" for node in tree.body if isinstance(node, ast.ImportFrom)]
+                 for name, tree in trees()}
+        done = set()
+        while len(done) < len(drawn):
+            ready = [name for name in drawn if name not in done and done.issuperset(drawn[name])]
+            self.assertNotEqual(ready, [], "some of these draw from one another: " + str(set(drawn) - done))
+            done.update(ready)
+
+    def test_names_come_from_the_file_that_defines_them(self):
+        defined = {name: [node.name for node in tree.body if isinstance(node, (ast.FunctionDef, ast.ClassDef))]
+                   for name, tree in trees()}
+        for name, node in self.nodes(ast.ImportFrom):
+            for alias in node.names:
+                self.assertIn(alias.name, defined[node.module.split(".")[1] + ".py"], name)
+
+    def test_locals_are_not_called_like_classes_or_imports(self):
+        for name, tree in trees():
+            taken = {node.name for node in tree.body if isinstance(node, ast.ClassDef)}
+            taken |= {alias.name for node in tree.body if isinstance(node, ast.ImportFrom) for alias in node.names}
+            for node in ast.walk(tree):
+                if isinstance(node, ast.arg):
+                    self.assertNotIn(node.arg, taken, name)
+                if isinstance(node, ast.Name) and isinstance(node.ctx, ast.Store):
+                    self.assertNotIn(node.id, taken, name)
 
     def test_nothing_is_done_at_the_top(self):
         for name, tree in trees():

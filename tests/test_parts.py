@@ -5,8 +5,7 @@ from fractions import Fraction
 from math import gcd, lcm
 
 from atleast.parts import common_divisor, common_one, in_parts, least_parts
-
-GREAT = 10 ** 200 - 1
+from cases import GREAT
 
 
 class TestCommonDivisor(unittest.TestCase):

@@ -1,15 +1,13 @@
 """Points 1 to 4, and the interface's section atleast/rows.py."""
 
-import copy
 import unittest
 from fractions import Fraction
 from inspect import signature
 from itertools import product
 
-from atleast.errors import NoRow, NoValues, NoWeights, RowError
+from atleast.errors import NoRow, NoValues, NoWeights
 from atleast.rows import holds, sum_of
-
-GREAT = 10 ** 200 - 1
+from cases import GREAT, Case
 
 
 def holds_by_fractions(rows, values):
@@ -26,22 +24,6 @@ def sum_by_steps(count, rows, weights):
     return numbers, least
 
 
-class RowsCase(unittest.TestCase):
-    def answer(self, function, count, rows, other):
-        kept = copy.deepcopy((rows, other))
-        answer = function(count, rows, other)
-        self.assertEqual((rows, other), kept, "handed in and changed")
-        return answer
-
-    def refused(self, error, function, count, rows, other):
-        kept = copy.deepcopy((rows, other))
-        for caught in (error, RowError, ValueError):
-            with self.assertRaises(caught) as told:
-                function(count, rows, other)
-            self.assertIs(type(told.exception), error)
-            self.assertEqual((rows, other), kept, "handed in and changed")
-
-
 class TestInterface(unittest.TestCase):
     def test_arguments_by_name(self):
         self.assertEqual(list(signature(holds).parameters), ["count", "rows", "values"])
@@ -50,7 +32,7 @@ class TestInterface(unittest.TestCase):
         self.assertEqual(sum_of(count=1, rows=[([1], 2)], weights=[3]), ([3], 6))
 
 
-class TestHolds(RowsCase):
+class TestHolds(Case):
     def held(self, count, rows, values):
         answer = self.answer(holds, count, rows, values)
         self.assertIs(type(answer), bool)
@@ -154,14 +136,10 @@ class TestHolds(RowsCase):
         self.refused(NoRow, holds, 1, [([1], 9), ([1, 1], 0)], [(1, 0)])
 
 
-class TestSumOf(RowsCase):
+class TestSumOf(Case):
     def summed(self, count, rows, weights):
         answer = self.answer(sum_of, count, rows, weights)
-        self.assertIs(type(answer), tuple)
-        self.assertEqual(len(answer), 2)
-        self.assertIs(type(answer[0]), list)
-        for number in answer[0] + [answer[1]]:
-            self.assertIs(type(number), int)
+        self.is_row(answer, count)
         return answer
 
     def test_rows_of_two_unknowns(self):
